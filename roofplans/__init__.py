@@ -1,0 +1,1 @@
+"""Plans of houses, and how high their roofs are."""

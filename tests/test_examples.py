@@ -1,0 +1,61 @@
+"""The document's examples of judge, facts and cells, number by number."""
+
+import unittest
+
+from roofplans.plans import cells, facts, judge
+from tests.helper import to_bytes
+
+
+class Examples(unittest.TestCase):
+    def answers(self, call, words, *numbers):
+        self.assertEqual(call(to_bytes(words)), list(numbers))
+
+    def test_house_of_ten_cells(self):
+        words = "0,0 4,0 4,2 2,2 2,3 0,3\n"
+        self.answers(judge, words, 1, 10)
+        self.answers(facts, words, 10, 1, 5, 1, 14, 4)
+        self.answers(cells, words, 10, 0, 0, 1, 0, 2, 0, 3, 0, 0, 1, 1, 1, 2, 1, 3, 1, 0, 2, 1, 2)
+
+    def test_house_of_ten_cells_at_the_edge(self):
+        words = "60,61 64,61 64,63 62,63 62,64 60,64\n"
+        self.answers(judge, words, 1, 10)
+        self.answers(facts, words, 10, 1, 5, 1, 14, 4)
+
+    def test_house_with_a_courtyard(self):
+        words = "0,0 3,0 3,3 0,3\n1,1 1,2 2,2 2,1\n"
+        self.answers(judge, words, 1, 8)
+        self.answers(facts, words, 8, 2, 4, 4, 16, 3)
+        self.answers(cells, words, 8, 0, 0, 1, 0, 2, 0, 0, 1, 2, 1, 0, 2, 1, 2, 2, 2)
+
+    def test_last_cell_of_the_ground(self):
+        words = "63,63 64,63 64,64 63,64\n"
+        self.answers(judge, words, 1, 1)
+        self.answers(cells, words, 1, 63, 63)
+
+    def test_house_less_its_corner(self):
+        words = "1,0 2,0 2,2 0,2 0,1 1,1\n"
+        self.answers(judge, words, 1, 3)
+        self.answers(cells, words, 3, 1, 0, 0, 1, 1, 1)
+
+    def test_one_cell(self):
+        self.answers(judge, "0,0 1,0 1,1 0,1\n", 1, 1)
+        self.answers(facts, "0,0 1,0 1,1 0,1\n", 1, 1, 4, 0, 4, 1)
+        self.answers(cells, "0,0 1,0 1,1 0,1\n", 1, 0, 0)
+
+    def test_wrong_shapes(self):
+        self.answers(judge, "0,0 1,0 1,1 0,1", 0, 1, 15)
+        self.answers(judge, "0,00", 0, 1, 3)
+        self.answers(judge, "65", 0, 1, 1)
+        self.answers(judge, "0,0 1,0 1,1\n", 0, 1, 11)
+        self.answers(judge, "", 0, 1, 0)
+
+    def test_walked_the_wrong_way(self):
+        self.answers(judge, "0,0 0,1 1,1 1,0\n", 0, 2, 0)
+
+    def test_most_cells(self):
+        self.answers(judge, "0,0 16,0 16,16 0,16\n", 1, 256)
+        self.answers(judge, "0,0 17,0 17,16 0,16\n", 0, 2, 0)
+
+
+if __name__ == "__main__":
+    unittest.main()

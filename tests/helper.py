@@ -28,10 +28,6 @@ def to_bytes(words):
     return list(words.encode("latin-1"))
 
 
-def from_bytes(t):
-    return bytes(t).decode("latin-1")
-
-
 # --- shapes of texts
 
 

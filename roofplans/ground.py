@@ -8,6 +8,9 @@ stand in the order that is asked for: by y, of equal ones by x.
 # leads to a number that no cell has, and edges need no care of their own.
 ROW = 128
 
+# How many cells the ground has each way.
+SIDE = 64
+
 
 def place(x, y):
     return y * ROW + x
@@ -19,3 +22,18 @@ def eastward(spot):
 
 def northward(spot):
     return spot // ROW
+
+
+def pairs_of(cells):
+    return [(eastward(cell), northward(cell)) for cell in sorted(cells)]
+
+
+# A dict with the cells as keys; an empty one if any lies beyond the edge, as
+# then none of the calls has a use for the others.
+def cells_at(pairs):
+    cells = {}
+    for x, y in pairs:
+        if x < 0 or x >= SIDE or y < 0 or y >= SIDE:
+            return {}
+        cells[place(x, y)] = True
+    return cells

@@ -1,6 +1,6 @@
 """Which cells are a house, and which house a text tells.
 
-A house is a dict with its cells as keys, in their order; an empty one stands
+A house is a dict with its cells as keys, in any order; an empty one stands
 for no house, since every house has a cell.
 """
 

@@ -62,6 +62,11 @@ def neighbours(cell):
     return [(x, y - 1), (x + 1, y), (x, y + 1), (x - 1, y)]
 
 
+def corners_of(cell):
+    x, y = cell
+    return [(x, y), (x + 1, y), (x + 1, y + 1), (x, y + 1)]
+
+
 def hangs_together(cells):
     reached = {min(cells)}
     edge = set(reached)
@@ -86,9 +91,9 @@ def is_house(cells):
 def walls(cells):
     """Every foot of wall as (from, to), the house on the left hand."""
     feet = []
-    for x, y in cells:
-        around = [(x, y), (x + 1, y), (x + 1, y + 1), (x, y + 1)]
-        for k, beside in enumerate(neighbours((x, y))):
+    for cell in cells:
+        around = corners_of(cell)
+        for k, beside in enumerate(neighbours(cell)):
             if beside not in cells:
                 feet.append((around[k], around[(k + 1) % 4]))
     return feet
@@ -129,6 +134,11 @@ def text_of(cells):
     return "".join(line_of(row) for row in walks(cells))
 
 
+def plan_of(cells):
+    """A house's text as the calls take it."""
+    return to_bytes(text_of(cells))
+
+
 def longest_row(cells):
     longest = 0
     for x, y in cells:
@@ -150,6 +160,48 @@ def plain_cells(cells):
     for x, y in sorted(cells, key=lambda cell: (cell[1], cell[0])):
         answer += [x, y]
     return answer
+
+
+# --- houses of cells, joined, turned and moved
+
+
+def flat(pairs):
+    return [number for pair in pairs for number in pair]
+
+
+def pairs_in(numbers):
+    return list(zip(numbers[0::2], numbers[1::2]))
+
+
+def plain_text(pairs):
+    on_ground = all(0 <= number <= 63 for number in flat(pairs))
+    if not on_ground or not is_house(set(pairs)):
+        return [-2]
+    return [0] + plan_of(set(pairs))
+
+
+def plain_join(how, first, second):
+    return plain_text([first | second, first & second, first - second][how])
+
+
+def placed(cells, x, y):
+    """The cells moved so that their least x and their least y are these."""
+    least_x = min(cell[0] for cell in cells)
+    least_y = min(cell[1] for cell in cells)
+    return shifted(cells, x - least_x, y - least_y)
+
+
+def turned_cells(k, cells):
+    """Every cell by the four points at its corners, each of them mirrored and turned about (0, 0)."""
+    found = set()
+    for cell in cells:
+        points = corners_of(cell)
+        if k >= 4:
+            points = [(-x, y) for x, y in points]
+        for quarter in range(k % 4):
+            points = [(-y, x) for x, y in points]
+        found.add(min(points))
+    return placed(found, 0, 0)
 
 
 # --- judging a text by the words alone
@@ -259,6 +311,33 @@ def transposed(cells):
     return {(y, x) for x, y in cells}
 
 
+def numbers_from(seed):
+    """A row of numbers without end that looks as if it had no rule, and is the same at each run."""
+    state = seed
+    while True:
+        state = (state * 1103515245 + 12345) % 2**31
+        yield state >> 8
+
+
+def mixed(things, seed):
+    numbers = numbers_from(seed)
+    return [thing for number, thing in sorted((next(numbers), thing) for thing in things)]
+
+
+def grown(seed, size, width=64, height=64):
+    """A house of so many cells, or of as many as there's room for, grown cell by cell within a ground."""
+    numbers = numbers_from(seed)
+    cells = {(next(numbers) % width, next(numbers) % height)}
+    edge = neighbours(min(cells))
+    while edge and len(cells) < size:
+        cell = edge.pop(next(numbers) % len(edge))
+        within = 0 <= cell[0] < width and 0 <= cell[1] < height
+        if within and cell not in cells and not meets_in_point_alone(cells | {cell}):
+            cells.add(cell)
+            edge += neighbours(cell)
+    return cells
+
+
 HOUSES = {
     "the document's example": {(0, 0), (1, 0), (2, 0), (3, 0), (0, 1), (1, 1), (2, 1), (3, 1), (0, 2), (1, 2)},
     "one cell, south-west": {(0, 0)},
@@ -292,6 +371,14 @@ HOUSES = {
     "two halves and a passage": rectangle(0, 0, 5, 3) | rectangle(5, 1, 9, 1) | rectangle(14, 0, 4, 4),
     "a row broken by a gap": rectangle(0, 0, 9, 1) | rectangle(0, 1, 4, 1) | rectangle(6, 1, 3, 1),
 }
+
+# Of many sizes and shapes, at any place of the ground.
+GROWN = [grown(seed, 1 + seed * seed % 97, 16, 16) for seed in range(1, 25)]
+GROWN += [shifted(grown(seed, 60, 10, 9), 54, 55) for seed in range(25, 31)]
+GROWN += [grown(seed, 120, 64, 64) for seed in range(31, 35)]
+GROWN += [grown(seed, 256, 20, 20) for seed in range(35, 37)]
+
+ALL_HOUSES = list(HOUSES.values()) + GROWN
 
 HOUSE_257 = rectangle(20, 30, 16, 16) | {(36, 45)}
 
@@ -440,3 +527,6 @@ WRONG_SHAPES = [
     (UNIT + "0,0 ", 20),
     (UNIT + "0,0 1,0 1,1 0,1", 31),
 ]
+
+# Every text above that is no house's, as the calls take it.
+WRONG_TEXTS = [to_bytes(words) for words in NO_HOUSES.values()] + [to_bytes(words) for words, wrong in WRONG_SHAPES]

@@ -1,9 +1,11 @@
-"""The document's examples of judge, facts and cells, number by number."""
+"""The document's examples, number by number."""
 
 import unittest
 
-from roofplans.plans import cells, facts, judge
+from roofplans.plans import cells, facts, join, judge, text
 from tests.helper import to_bytes
+
+IN_FIRST_ALONE = 2
 
 
 class Examples(unittest.TestCase):
@@ -36,6 +38,20 @@ class Examples(unittest.TestCase):
         words = "1,0 2,0 2,2 0,2 0,1 1,1\n"
         self.answers(judge, words, 1, 3)
         self.answers(cells, words, 3, 1, 0, 0, 1, 1, 1)
+
+    def test_cells_that_are_no_house(self):
+        self.assertEqual(text([0, 0, 1, 1]), [-2])
+        self.assertEqual(text([]), [-2])
+        self.assertEqual(text([64, 0]), [-2])
+
+    def test_text_of_the_last_cell(self):
+        self.assertEqual(text([63, 63]), [0] + to_bytes("63,63 64,63 64,64 63,64\n"))
+
+    def test_square_less_one_of_its_cells(self):
+        square, cell = to_bytes("0,0 2,0 2,2 0,2\n"), to_bytes("0,0 1,0 1,1 0,1\n")
+        left = to_bytes("1,0 2,0 2,2 0,2 0,1 1,1\n")
+        self.assertEqual(join(IN_FIRST_ALONE, square, cell), [0] + left)
+        self.assertEqual(join(IN_FIRST_ALONE, cell, square), [-2])
 
     def test_one_cell(self):
         self.answers(judge, "0,0 1,0 1,1 0,1\n", 1, 1)

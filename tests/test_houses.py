@@ -10,6 +10,7 @@ from tests.helper import (
     RING,
     WRONG_SHAPES,
     is_house,
+    pairs_in,
     plain_cells,
     plain_facts,
     plain_house,
@@ -33,10 +34,6 @@ def feet_walked(words):
             dx, dy = (to_x - x) // length, (to_y - y) // length
             feet += [((x + k * dx, y + k * dy), (x + k * dx + dx, y + k * dy + dy)) for k in range(length)]
     return feet
-
-
-def pairs(numbers):
-    return list(zip(numbers[0::2], numbers[1::2]))
 
 
 class HousesTold(unittest.TestCase):
@@ -72,7 +69,7 @@ class HousesTold(unittest.TestCase):
         for house in HOUSES.values():
             words = text_of(house)
             told = cells(to_bytes(words))
-            self.assertEqual(text_of(set(pairs(told[1:]))), words)
+            self.assertEqual(text_of(set(pairs_in(told[1:]))), words)
 
 
 class Counts(unittest.TestCase):

@@ -1,12 +1,13 @@
-"""How the cells and the points of the ground are numbered.
+"""How the cells, the half-cells and the points of the ground are numbered.
 
-The cell or the point (x, y) is the one whole number y * ROW + x, so numbers
-stand in the order that is asked for: by y, of equal ones by x.
+Each of them, (x, y), is the one whole number y * ROW + x, so numbers stand in
+the order that is asked for: by y, of equal ones by x.
 """
 
-# Wider than the ground's 64 cells and 65 points: so a step across an edge
-# leads to a number that no cell has, and edges need no care of their own.
-ROW = 128
+# Far wider than the ground's 64 cells, 128 half-cells or 129 points: so a
+# step or several across an edge lead to a number that no cell and no
+# half-cell has, and edges need no care of their own.
+ROW = 256
 
 # How many cells the ground has each way.
 SIDE = 64

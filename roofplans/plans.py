@@ -1,13 +1,15 @@
 """The calls: each takes texts as lists of bytes, and answers a list of whole numbers.
 
 A refusal is its number alone: -1 a text is no house's, -2 the cells are no
-house, -3 a number is out of its bounds.
+house, -3 a number is out of its bounds, -4 it would go beyond the edge, -5
+it is outside.
 """
 
-from roofplans.ground import cells_at, pairs_of
+from roofplans.ground import cells_at, pairs_of, place
 from roofplans.houses import house_of_lines, house_of_text, is_house, longest_row
-from roofplans.moves import LAST_TURN, LAST_WAY_TO_JOIN, joined, turned_house
+from roofplans.moves import LAST_TURN, LAST_WAY_TO_JOIN, joined, moved_to, turned_house
 from roofplans.reading import read_text
+from roofplans.roofs import LAST_HALF_CELL, LAST_POINT, depth_of, half_cells, height_over
 from roofplans.walks import count_outward, wall_steps, walk_rows
 from roofplans.writing import house_bytes
 
@@ -71,3 +73,35 @@ def turned(k, t):
     if not house:
         return [-1]
     return [0] + house_bytes(turned_house(k, house))
+
+
+def moved(x, y, t):
+    house = house_of_text(t)
+    if not house:
+        return [-1]
+    there = cells_at(moved_to(pairs_of(house), x, y))
+    if not there:
+        return [-4]
+    return [0] + house_bytes(there)
+
+
+def height(px, py, t):
+    if px > LAST_POINT or py > LAST_POINT:
+        return [-3]
+    house = house_of_text(t)
+    if not house:
+        return [-1]
+    return [height_over(half_cells(house), place(px, py))]
+
+
+def depth(i, j, t):
+    if i > LAST_HALF_CELL or j > LAST_HALF_CELL:
+        return [-3]
+    house = house_of_text(t)
+    if not house:
+        return [-1]
+    halves = half_cells(house)
+    half = place(i, j)
+    if half not in halves:
+        return [-5]
+    return [depth_of(halves, half)]

@@ -204,6 +204,39 @@ def turned_cells(k, cells):
     return placed(found, 0, 0)
 
 
+def plain_moved(x, y, cells):
+    there = placed(cells, x, y)
+    if any(number > 63 for number in flat(there)):
+        return [-4]
+    return [0] + plan_of(there)
+
+
+# --- the roof
+
+
+def half_cells(cells):
+    return {(i, j) for x, y in cells for i in (2 * x, 2 * x + 1) for j in (2 * y, 2 * y + 1)}
+
+
+def lies_in(halves, columns, rows):
+    return all((i, j) in halves for i in columns for j in rows)
+
+
+def plain_height(halves, x, y):
+    h = 0
+    while lies_in(halves, range(x - h - 1, x + h + 1), range(y - h - 1, y + h + 1)):
+        h += 1
+    return h
+
+
+def plain_depth(halves, i, j):
+    """How deep a half-cell of the house lies."""
+    k = 0
+    while lies_in(halves, range(i - k - 1, i + k + 2), range(j - k - 1, j + k + 2)):
+        k += 1
+    return k
+
+
 # --- judging a text by the words alone
 
 

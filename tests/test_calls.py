@@ -32,6 +32,9 @@ CALLS = {
     "cells": (["t"], lambda t: [(t,)], lambda t: []),
     "join": (["how", "t", "u"], lambda t: [(0, t, OTHER), (1, t, t), (2, OTHER, t)], lambda t: [(3, t, OTHER)]),
     "turned": (["k", "t"], lambda t: [(0, t), (7, t)], lambda t: [(8, t)]),
+    "moved": (["x", "y", "t"], lambda t: [(3, 0, t), (63, 2**32 - 1, t)], lambda t: []),
+    "height": (["px", "py", "t"], lambda t: [(16, 15, t), (128, 128, t)], lambda t: [(129, 0, t)]),
+    "depth": (["i", "j", "t"], lambda t: [(0, 1, t), (127, 127, t)], lambda t: [(0, 128, t)]),
 }
 
 SOME_CELLS = [flat(mixed(house, 4)) for house in HOUSES.values()] + [

@@ -2,9 +2,10 @@
 
 import unittest
 
-from roofplans.plans import cells, facts, join, judge, text
+from roofplans.plans import cells, facts, height, join, judge, moved, text
 from tests.helper import to_bytes
 
+T = to_bytes("0,0 4,0 4,2 2,2 2,3 0,3\n")
 IN_FIRST_ALONE = 2
 
 
@@ -17,6 +18,16 @@ class Examples(unittest.TestCase):
         self.answers(judge, words, 1, 10)
         self.answers(facts, words, 10, 1, 5, 1, 14, 4)
         self.answers(cells, words, 10, 0, 0, 1, 0, 2, 0, 3, 0, 0, 1, 1, 1, 2, 1, 3, 1, 0, 2, 1, 2)
+
+    def test_heights(self):
+        self.assertEqual(height(3, 2, T), [2])
+        self.assertEqual(height(2, 4, T), [2])
+        self.assertEqual(height(4, 4, T), [0])
+        self.assertEqual(height(2, 3, T), [2])
+
+    def test_moved(self):
+        self.assertEqual(moved(61, 0, T), [-4])
+        self.assertEqual(moved(60, 61, T), [0] + to_bytes("60,61 64,61 64,63 62,63 62,64 60,64\n"))
 
     def test_house_of_ten_cells_at_the_edge(self):
         words = "60,61 64,61 64,63 62,63 62,64 60,64\n"

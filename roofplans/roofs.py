@@ -1,0 +1,48 @@
+"""The roof over a house: how high it is over points, and how deep half-cells lie.
+
+Points and half-cells are numbered like cells, by halves of a foot. The
+half-cells of a house are a dict's keys.
+"""
+
+from roofplans.ground import ROW
+
+LAST_HALF_CELL = 127
+LAST_POINT = 128
+
+
+# The half-cell (2 x, 2 y) has twice the number of the cell (x, y).
+def half_cells(house):
+    halves = {}
+    for cell in house:
+        least = 2 * cell
+        for half in (least, least + 1, least + ROW, least + ROW + 1):
+            halves[half] = True
+    return halves
+
+
+def border_within(halves, least, side):
+    last = side - 1
+    for step in range(side):
+        for half in (least + step, least + last * ROW + step, least + step * ROW, least + step * ROW + last):
+            if half not in halves:
+                return False
+    return True
+
+
+# How often a square of half-cells that lies in the house can grow by one on
+# every side and still lie in it; least is its half-cell in the south-west.
+# What it was before it grew lies in the house, so its border alone is new.
+def room_about(halves, least, side):
+    room = 0
+    while border_within(halves, least - (room + 1) * (ROW + 1), side + 2 * (room + 1)):
+        room = room + 1
+    return room
+
+
+# The square about a point begins with no half-cell at all.
+def height_over(halves, point):
+    return room_about(halves, point, 0)
+
+
+def depth_of(halves, half):
+    return room_about(halves, half, 1)

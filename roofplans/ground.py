@@ -25,6 +25,10 @@ def northward(spot):
     return spot // ROW
 
 
+def beside(spot):
+    return (spot - ROW, spot - 1, spot + 1, spot + ROW)
+
+
 def pairs_of(cells):
     return [(eastward(cell), northward(cell)) for cell in sorted(cells)]
 

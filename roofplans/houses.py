@@ -4,7 +4,7 @@ A house is a dict with its cells as keys, in any order; an empty one stands
 for no house, since every house has a cell.
 """
 
-from roofplans.ground import ROW, eastward, northward
+from roofplans.ground import ROW, beside, eastward, northward
 from roofplans.reading import read_text
 from roofplans.walks import walk_rows
 
@@ -21,15 +21,15 @@ def meet_in_point_alone(house):
     return False
 
 
-def reached_from(house, first):
+# Cells or half-cells: all to which a way leads from the first within these.
+def reached_from(spots, first):
     reached = {first: True}
     waiting = [first]
     while waiting:
-        cell = waiting.pop()
-        for beside in (cell - ROW, cell - 1, cell + 1, cell + ROW):
-            if beside in house and beside not in reached:
-                reached[beside] = True
-                waiting.append(beside)
+        for near in beside(waiting.pop()):
+            if near in spots and near not in reached:
+                reached[near] = True
+                waiting.append(near)
     return reached
 
 

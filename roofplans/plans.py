@@ -5,11 +5,22 @@ house, -3 a number is out of its bounds, -4 it would go beyond the edge, -5
 it is outside.
 """
 
-from roofplans.ground import cells_at, pairs_of, place
+from roofplans.ground import cells_at, eastward, northward, pairs_of, place
 from roofplans.houses import house_of_lines, house_of_text, is_house, longest_row
 from roofplans.moves import LAST_TURN, LAST_WAY_TO_JOIN, joined, moved_to, turned_house
 from roofplans.reading import read_text
-from roofplans.roofs import LAST_HALF_CELL, LAST_POINT, depth_of, half_cells, height_over
+from roofplans.roofs import (
+    LAST_HALF_CELL,
+    LAST_POINT,
+    count_by_depth,
+    count_rim,
+    depth_of,
+    half_cells,
+    height_over,
+    highest_point,
+    lying_in_by,
+    piece_sizes,
+)
 from roofplans.walks import count_outward, wall_steps, walk_rows
 from roofplans.writing import house_bytes
 
@@ -105,3 +116,29 @@ def depth(i, j, t):
     if half not in halves:
         return [-5]
     return [depth_of(halves, half)]
+
+
+def highest(t):
+    house = house_of_text(t)
+    if not house:
+        return [-1]
+    halves = half_cells(house)
+    point = highest_point(halves)
+    return [height_over(halves, point), eastward(point), northward(point)]
+
+
+def inset(k, t):
+    house = house_of_text(t)
+    if not house:
+        return [-1]
+    inner = lying_in_by(k, half_cells(house))
+    sizes = piece_sizes(inner)
+    return [len(inner), len(sizes), max(sizes, default=0), count_rim(inner)]
+
+
+def depths(t):
+    house = house_of_text(t)
+    if not house:
+        return [-1]
+    counts = count_by_depth(half_cells(house))
+    return [len(counts)] + counts

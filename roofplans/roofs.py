@@ -4,7 +4,8 @@ Points and half-cells are numbered like cells, by halves of a foot. The
 half-cells of a house are a dict's keys.
 """
 
-from roofplans.ground import ROW
+from roofplans.ground import ROW, beside
+from roofplans.houses import reached_from
 
 LAST_HALF_CELL = 127
 LAST_POINT = 128
@@ -46,3 +47,38 @@ def height_over(halves, point):
 
 def depth_of(halves, half):
     return room_about(halves, half, 1)
+
+
+# A point has the number of the half-cell to the north-east of it, which is in
+# the house where the height is above 0: so these points are enough. Of those
+# with the greatest height max takes the first.
+def highest_point(halves):
+    return max(sorted(halves), key=lambda point: height_over(halves, point))
+
+
+def count_by_depth(halves):
+    found = [depth_of(halves, half) for half in halves]
+    return [found.count(k) for k in range(max(found) + 1)]
+
+
+def lying_in_by(k, halves):
+    inner = {}
+    for half in halves:
+        if depth_of(halves, half) >= k:
+            inner[half] = True
+    return inner
+
+
+def piece_sizes(inner):
+    seen = {}
+    sizes = []
+    for half in inner:
+        if half not in seen:
+            piece = reached_from(inner, half)
+            seen.update(piece)
+            sizes.append(len(piece))
+    return sizes
+
+
+def count_rim(inner):
+    return len([half for half in inner if any([near not in inner for near in beside(half)])])

@@ -67,13 +67,23 @@ def corners_of(cell):
     return [(x, y), (x + 1, y), (x + 1, y + 1), (x, y + 1)]
 
 
+def parts_of(spots):
+    """The greatest parts in which a way leads from each to each, of cells or of half-cells."""
+    left = set(spots)
+    parts = []
+    while left:
+        part = set()
+        edge = {left.pop()}
+        while edge:
+            part |= edge
+            edge = {n for spot in edge for n in neighbours(spot) if n in left}
+            left -= edge
+        parts.append(part)
+    return parts
+
+
 def hangs_together(cells):
-    reached = {min(cells)}
-    edge = set(reached)
-    while edge:
-        edge = {n for cell in edge for n in neighbours(cell) if n in cells} - reached
-        reached |= edge
-    return reached == cells
+    return len(parts_of(cells)) == 1
 
 
 def meets_in_point_alone(cells):
@@ -235,6 +245,30 @@ def plain_depth(halves, i, j):
     while lies_in(halves, range(i - k - 1, i + k + 2), range(j - k - 1, j + k + 2)):
         k += 1
     return k
+
+
+def plain_highest(halves):
+    heights = {(x, y): plain_height(halves, x, y) for y in range(129) for x in range(129)}
+    greatest = max(heights.values())
+    y, x = min((y, x) for (x, y), height in heights.items() if height == greatest)
+    return [greatest, x, y]
+
+
+def depth_by_half(halves):
+    return {(i, j): plain_depth(halves, i, j) for i, j in halves}
+
+
+def plain_depths(deep):
+    """deep tells of each half-cell of the house how deep it lies."""
+    counts = [list(deep.values()).count(k) for k in range(max(deep.values()) + 1)]
+    return [len(counts)] + counts
+
+
+def plain_inset(k, deep):
+    inner = {half for half in deep if deep[half] >= k}
+    sizes = [len(part) for part in parts_of(inner)]
+    rim = [half for half in inner if not set(neighbours(half)) <= inner]
+    return [len(inner), len(sizes), max([0] + sizes), len(rim)]
 
 
 # --- judging a text by the words alone
@@ -402,6 +436,16 @@ HOUSES = {
     - rectangle(12, 10, 6, 6)
     | rectangle(12, 12, 3, 1),
     "two halves and a passage": rectangle(0, 0, 5, 3) | rectangle(5, 1, 9, 1) | rectangle(14, 0, 4, 4),
+    "three rooms alike and a smaller one": rectangle(0, 0, 4, 4)
+    | rectangle(4, 1, 2, 1)
+    | rectangle(6, 0, 4, 4)
+    | rectangle(7, 4, 1, 3)
+    | rectangle(6, 7, 4, 4)
+    | rectangle(5, 8, 1, 1)
+    | rectangle(2, 8, 3, 2),
+    "squares that overlap in a cell": rectangle(30, 60, 2, 2) | rectangle(31, 61, 2, 2),
+    "squares that overlap in a cell, the other slant": rectangle(3, 0, 3, 3) | rectangle(1, 2, 3, 3),
+    "a large courtyard": rectangle(50, 0, 14, 14) - rectangle(54, 5, 5, 4),
     "a row broken by a gap": rectangle(0, 0, 9, 1) | rectangle(0, 1, 4, 1) | rectangle(6, 1, 3, 1),
 }
 

@@ -35,6 +35,9 @@ CALLS = {
     "moved": (["x", "y", "t"], lambda t: [(3, 0, t), (63, 2**32 - 1, t)], lambda t: []),
     "height": (["px", "py", "t"], lambda t: [(16, 15, t), (128, 128, t)], lambda t: [(129, 0, t)]),
     "depth": (["i", "j", "t"], lambda t: [(0, 1, t), (127, 127, t)], lambda t: [(0, 128, t)]),
+    "highest": (["t"], lambda t: [(t,)], lambda t: []),
+    "inset": (["k", "t"], lambda t: [(0, t), (2, t), (2**32 - 1, t)], lambda t: []),
+    "depths": (["t"], lambda t: [(t,)], lambda t: []),
 }
 
 SOME_CELLS = [flat(mixed(house, 4)) for house in HOUSES.values()] + [

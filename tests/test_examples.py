@@ -2,7 +2,7 @@
 
 import unittest
 
-from roofplans.plans import cells, facts, height, join, judge, moved, text
+from roofplans.plans import cells, depths, facts, height, highest, inset, join, judge, moved, text
 from tests.helper import to_bytes
 
 T = to_bytes("0,0 4,0 4,2 2,2 2,3 0,3\n")
@@ -24,6 +24,17 @@ class Examples(unittest.TestCase):
         self.assertEqual(height(2, 4, T), [2])
         self.assertEqual(height(4, 4, T), [0])
         self.assertEqual(height(2, 3, T), [2])
+
+    def test_highest(self):
+        self.assertEqual(highest(T), [2, 2, 2])
+
+    def test_depths(self):
+        self.assertEqual(depths(T), [2, 24, 16])
+
+    def test_insets(self):
+        self.assertEqual(inset(0, T), [40, 1, 40, 23])
+        self.assertEqual(inset(1, T), [16, 1, 16, 15])
+        self.assertEqual(inset(2, T), [0, 0, 0, 0])
 
     def test_moved(self):
         self.assertEqual(moved(61, 0, T), [-4])

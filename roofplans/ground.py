@@ -34,11 +34,12 @@ def pairs_of(cells):
 
 
 # A dict with the cells as keys; an empty one if any lies beyond the edge, as
-# then none of the calls has a use for the others.
+# then none of the calls has a use for the others. Numbers below 0 are never
+# handed in.
 def cells_at(pairs):
     cells = {}
     for x, y in pairs:
-        if x < 0 or x >= SIDE or y < 0 or y >= SIDE:
+        if x >= SIDE or y >= SIDE:
             return {}
         cells[place(x, y)] = True
     return cells

@@ -26,7 +26,8 @@ def reached_from(spots, first):
     reached = {first: True}
     waiting = [first]
     while waiting:
-        for near in beside(waiting.pop()):
+        spot = waiting.pop()
+        for near in beside(spot):
             if near in spots and near not in reached:
                 reached[near] = True
                 waiting.append(near)

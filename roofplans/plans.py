@@ -20,6 +20,7 @@ from roofplans.roofs import (
     highest_point,
     lying_in_by,
     piece_sizes,
+    space_under,
 )
 from roofplans.walks import count_outward, wall_steps, walk_rows
 from roofplans.writing import house_bytes
@@ -142,3 +143,20 @@ def depths(t):
         return [-1]
     counts = count_by_depth(half_cells(house))
     return [len(counts)] + counts
+
+
+def space(t):
+    house = house_of_text(t)
+    if not house:
+        return [-1]
+    return [space_under(half_cells(house))]
+
+
+def holds(t, u):
+    house = house_of_text(t)
+    part = house_of_text(u)
+    if not house or not part:
+        return [-1]
+    if all([cell in house for cell in part]):
+        return [1]
+    return [0]

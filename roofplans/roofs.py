@@ -11,12 +11,17 @@ LAST_HALF_CELL = 127
 LAST_POINT = 128
 
 
+# From a cell's least half-cell on these are its half-cells; from a half-cell
+# on, taken for points, they are its corners.
+def four_from(spot):
+    return (spot, spot + 1, spot + ROW, spot + ROW + 1)
+
+
 # The half-cell (2 x, 2 y) has twice the number of the cell (x, y).
 def half_cells(house):
     halves = {}
     for cell in house:
-        least = 2 * cell
-        for half in (least, least + 1, least + ROW, least + ROW + 1):
+        for half in four_from(2 * cell):
             halves[half] = True
     return halves
 
@@ -80,5 +85,30 @@ def piece_sizes(inner):
     return sizes
 
 
+def is_on_rim(inner, half):
+    return any([near not in inner for near in beside(half)])
+
+
 def count_rim(inner):
-    return len([half for half in inner if any([near not in inner for near in beside(half)])])
+    return len([half for half in inner if is_on_rim(inner, half)])
+
+
+# Most points are corners of four half-cells: each is looked at once.
+def corner_heights(halves):
+    heights = {}
+    for half in halves:
+        for point in four_from(half):
+            if point not in heights:
+                heights[point] = height_over(halves, point)
+    return heights
+
+
+# Each corner ends two of a half-cell's four sides, and counts twice at each:
+# four times in all.
+def space_under(halves):
+    heights = corner_heights(halves)
+    total = 0
+    for half in halves:
+        over_corners = sum([heights[point] for point in four_from(half)])
+        total = total + 4 * over_corners + 4 * (2 * depth_of(halves, half) + 1)
+    return total

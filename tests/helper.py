@@ -271,6 +271,17 @@ def plain_inset(k, deep):
     return [len(inner), len(sizes), max([0] + sizes), len(rim)]
 
 
+def plain_space(halves):
+    total = 0
+    for i, j in halves:
+        k = plain_depth(halves, i, j)
+        ends = corners_of((i, j))
+        for side in range(4):
+            over_ends = plain_height(halves, *ends[side]) + plain_height(halves, *ends[(side + 1) % 4])
+            total += 2 * over_ends + 2 * k + 1
+    return total
+
+
 # --- judging a text by the words alone
 
 

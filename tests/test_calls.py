@@ -38,6 +38,8 @@ CALLS = {
     "highest": (["t"], lambda t: [(t,)], lambda t: []),
     "inset": (["k", "t"], lambda t: [(0, t), (2, t), (2**32 - 1, t)], lambda t: []),
     "depths": (["t"], lambda t: [(t,)], lambda t: []),
+    "space": (["t"], lambda t: [(t,)], lambda t: []),
+    "holds": (["t", "u"], lambda t: [(t, OTHER), (OTHER, t), (t, t)], lambda t: []),
 }
 
 SOME_CELLS = [flat(mixed(house, 4)) for house in HOUSES.values()] + [
@@ -176,6 +178,7 @@ class Long(unittest.TestCase):
         stairs, courts = plan_of(HOUSES["stairs"]), plan_of(HOUSES["72 courtyards"])
         for how in range(3):
             self.in_good_time(plans.join, (how, stairs, courts))
+        self.in_good_time(plans.holds, (stairs, courts))
 
     def test_cells(self):
         for cells in SOME_CELLS:

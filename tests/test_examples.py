@@ -2,7 +2,7 @@
 
 import unittest
 
-from roofplans.plans import cells, depths, facts, height, highest, inset, join, judge, moved, text
+from roofplans.plans import cells, depths, facts, height, highest, inset, join, judge, moved, space, text
 from tests.helper import to_bytes
 
 T = to_bytes("0,0 4,0 4,2 2,2 2,3 0,3\n")
@@ -35,6 +35,10 @@ class Examples(unittest.TestCase):
         self.assertEqual(inset(0, T), [40, 1, 40, 23])
         self.assertEqual(inset(1, T), [16, 1, 16, 15])
         self.assertEqual(inset(2, T), [0, 0, 0, 0])
+
+    def test_space(self):
+        self.assertEqual(space(T), [832])
+        self.assertEqual(space(to_bytes("0,0 1,0 1,1 0,1\n")), [32])
 
     def test_moved(self):
         self.assertEqual(moved(61, 0, T), [-4])

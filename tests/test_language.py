@@ -2,6 +2,7 @@
 
 import ast
 import pathlib
+import re
 import unittest
 
 PACKAGE = pathlib.Path(__file__).resolve().parent.parent / "roofplans"
@@ -22,6 +23,18 @@ BARRED_NODES = (ast.Div, ast.MatMult)
 BUILT_IN = set(
     "len range enumerate zip min max sum abs sorted reversed int str bool list tuple dict set frozenset isinstance"
     " ord repr any all divmod Exception ValueError KeyError IndexError LookupError ZeroDivisionError".split()
+)
+
+
+METHODS = set(
+    "append clear copy count endswith extend find get index insert isalnum isalpha isdigit islower isspace isupper"
+    " items join keys ljust lower lstrip partition pop remove replace reverse rfind rjust rpartition rsplit rstrip"
+    " setdefault split splitlines startswith strip update upper values zfill bit_length".split()
+)
+
+BARRED_WORDS = re.compile(
+    r"\b(type|typing|typing_extensions|enum|Enum|IntEnum|StrEnum|Flag|IntFlag|Generic|Protocol|ABC|ABCMeta|namedtuple"
+    r"|NamedTuple|TypedDict|TYPE_CHECKING|abstractmethod)\b|dataclass|overload|contextmanager"
 )
 
 
@@ -79,6 +92,23 @@ class Language(unittest.TestCase):
                 where = f"{name}:{getattr(node, 'lineno', '?')}"
                 self.assertIsInstance(node, ALLOWED_NODES, where)
                 self.assertNotIsInstance(node, BARRED_NODES, where)
+
+    def test_words_that_stand_nowhere(self):
+        for path in files():
+            self.assertIsNone(BARRED_WORDS.search(path.read_text(encoding="utf-8")), path.name)
+
+    def test_methods_are_pythons_few_or_the_packages_own(self):
+        own = {node.name for name, tree in trees() for node in ast.walk(tree) if isinstance(node, ast.FunctionDef)}
+        for name, tree in trees():
+            for node in ast.walk(tree):
+                if isinstance(node, ast.Call) and isinstance(node.func, ast.Attribute):
+                    self.assertIn(node.func.attr, METHODS | own, f"{name}:{node.lineno}")
+
+    def test_nothing_is_kept_at_a_files_top(self):
+        for name, tree in trees():
+            for node in tree.body:
+                if isinstance(node, ast.Assign):
+                    self.assertIsInstance(node.value, ast.Constant, f"{name}:{node.lineno}")
 
     def test_names_of_pythons_own(self):
         for name, tree in trees():
